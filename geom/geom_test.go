@@ -9,93 +9,13 @@ import (
 	"revetment/api"
 	"revetment/conf"
 	"revetment/geom"
+	"revetment/sample"
 )
 
 const (
 	least    = math.MinInt
 	greatest = math.MaxInt
 )
-
-// listed is settings by their numbers, in the order in which api has them.
-func listed(id, members, unit, block, room, zones, spare, meta, open, active, limit int) api.Conf {
-	return api.Conf{ID: id, Members: members, Unit: unit, Block: block, Cap: room, Zones: zones, Spare: spare, Meta: meta, Open: open, Active: active, Limit: limit}
-}
-
-// The least settings, and the greatest.
-func small() api.Conf { return listed(0, 3, 1, 4096, 5, 1, 1, 3, 1, 1, 5) }
-func great() api.Conf { return listed(1<<40, 16, 64, 4096, 4096, 60, 1, 3, 60, 60, 64) }
-
-// bases are settings that may be, of unlike kinds: with more stripes than
-// members and fewer, with as many parities on each member and not.
-func bases() []api.Conf {
-	return []api.Conf{
-		conf.Plain(),
-		small(),
-		great(),
-		listed(0, 3, 64, 4096, 4096, 60, 1, 3, 1, 1, 64),
-		listed(0, 16, 1, 4096, 4096, 60, 1, 3, 1, 1, 64),
-		listed(0, 16, 64, 4096, 192, 1, 1, 3, 1, 1, 5),
-		listed(0, 16, 1, 4096, 5, 1, 1, 3, 1, 1, 5),
-		listed(1, 5, 3, 100, 999, 10, 40, 14, 1, 10, 64),
-		listed(1, 7, 5, 512, 35, 2, 1, 3, 1, 2, 6),
-		listed(1, 3, 2, 512, 24, 2, 1, 3, 1, 2, 6),
-		listed(1, 8, 2, 512, 30, 2, 1, 3, 1, 2, 6),
-	}
-}
-
-// argued are settings that conf.Check refuses with ErrArg, though blocks could
-// well be laid by most of them.
-func argued() []api.Conf {
-	return append(changed(
-		func(c *api.Conf) { c.ID = -1 },
-		func(c *api.Conf) { c.Members = 2 },
-		func(c *api.Conf) { c.Members = 17 },
-		func(c *api.Conf) { c.Members = 0 },
-		func(c *api.Conf) { c.Members = -4 },
-		func(c *api.Conf) { c.Unit = 0 },
-		func(c *api.Conf) { c.Unit = -2 },
-		func(c *api.Conf) { c.Unit, c.Cap = 65, 65*60 },
-		func(c *api.Conf) { c.Block = 0 },
-		func(c *api.Conf) { c.Block = 4097 },
-		func(c *api.Conf) { c.Cap = 25 },
-		func(c *api.Conf) { c.Cap = 4098 },
-		func(c *api.Conf) { c.Zones = 0 },
-		func(c *api.Conf) { c.Spare = 0 },
-		func(c *api.Conf) { c.Meta = 2 },
-		func(c *api.Conf) { c.Meta = 61 },
-		func(c *api.Conf) { c.Open = 4 },
-		func(c *api.Conf) { c.Active = 4 },
-		func(c *api.Conf) { c.Limit = 6 },
-	),
-		api.Conf{},
-		listed(least, least, least, least, least, least, least, least, least, least, least),
-		listed(greatest, greatest, greatest, greatest, greatest, greatest, greatest, greatest, greatest, greatest, greatest),
-	)
-}
-
-// tight are settings that conf.Check refuses with ErrSpace.
-func tight() []api.Conf {
-	return append(changed(
-		func(c *api.Conf) { c.Cap = 16 },
-		func(c *api.Conf) { c.Block = 1 },
-	),
-		listed(0, 16, 64, 4096, 128, 1, 1, 3, 1, 1, 5),
-		listed(0, 3, 1, 4096, 4, 1, 1, 3, 1, 1, 5),
-	)
-}
-
-func refused() []api.Conf { return append(argued(), tight()...) }
-
-// changed is Plain with each of some changes.
-func changed(some ...func(*api.Conf)) []api.Conf {
-	var all []api.Conf
-	for _, change := range some {
-		c := conf.Plain()
-		change(&c)
-		all = append(all, c)
-	}
-	return all
-}
 
 // cell is what a member has at a block of its zone.
 type cell struct {
@@ -187,17 +107,6 @@ func within(count int) []int {
 	return []int{0, 1, count / 2, count - 2, count - 1}
 }
 
-// TestSettings: that the settings here are what they are said to be.
-func TestSettings(t *testing.T) {
-	for want, some := range map[api.Errno][]api.Conf{api.OK: bases(), api.ErrArg: argued(), api.ErrSpace: tight()} {
-		for _, c := range some {
-			if e := conf.Check(c); e != want {
-				t.Errorf("%+v: %d, want %d", c, int(e), int(want))
-			}
-		}
-	}
-}
-
 // P8.1
 
 // TestTurnOfPlain: four members, stripe by stripe: -1 is where the parity is.
@@ -220,7 +129,7 @@ func TestTurnOfPlain(t *testing.T) {
 }
 
 func TestTurnOfTheLeast(t *testing.T) {
-	c := small()
+	c := sample.Small()
 	for stripe, units := range [][]int{{-1, 0, 1}, {1, -1, 0}, {0, 1, -1}, {-1, 0, 1}, {1, -1, 0}} {
 		for m, unit := range units {
 			number(t, geom.Unit(c, stripe, m), unit, "Unit", c, stripe, m)
@@ -232,7 +141,7 @@ func TestTurnOfTheLeast(t *testing.T) {
 }
 
 func TestTurnOfTheGreatest(t *testing.T) {
-	c := great()
+	c := sample.Great()
 	for _, w := range []struct{ stripe, parity, unit, member int }{
 		{0, 0, 0, 1}, {0, 0, 14, 15}, {1, 1, 13, 15}, {1, 1, 14, 0}, {15, 15, 0, 0}, {15, 15, 14, 14}, {16, 0, 7, 8}, {63, 15, 0, 0}, {63, 15, 14, 14}, {62, 14, 0, 15}, {62, 14, 1, 0},
 	} {
@@ -245,7 +154,7 @@ func TestTurnOfTheGreatest(t *testing.T) {
 
 // TestTurns: Parity, Member and Unit of all that there is.
 func TestTurns(t *testing.T) {
-	for _, c := range bases() {
+	for _, c := range sample.Good() {
 		z := laid(c)
 		for stripe, p := range z.parities {
 			number(t, geom.Parity(c, stripe), p, "Parity", c, stripe)
@@ -261,7 +170,7 @@ func TestTurns(t *testing.T) {
 }
 
 func TestNoSuchStripe(t *testing.T) {
-	for _, c := range bases() {
+	for _, c := range sample.Good() {
 		for _, stripe := range without(conf.Stripes(c)) {
 			number(t, geom.Parity(c, stripe), 0, "Parity", c, stripe)
 			for k := range c.Members {
@@ -273,7 +182,7 @@ func TestNoSuchStripe(t *testing.T) {
 }
 
 func TestNoSuchUnit(t *testing.T) {
-	for _, c := range bases() {
+	for _, c := range sample.Good() {
 		for _, stripe := range within(conf.Stripes(c)) {
 			for _, unit := range without(conf.Data(c)) {
 				number(t, geom.Member(c, stripe, unit), 0, "Member", c, stripe, unit)
@@ -283,7 +192,7 @@ func TestNoSuchUnit(t *testing.T) {
 }
 
 func TestUnitOfNoSuchMember(t *testing.T) {
-	for _, c := range bases() {
+	for _, c := range sample.Good() {
 		for _, stripe := range within(conf.Stripes(c)) {
 			for _, m := range without(c.Members) {
 				number(t, geom.Unit(c, stripe, m), 0, "Unit", c, stripe, m)
@@ -300,7 +209,7 @@ func TestExample(t *testing.T) {
 }
 
 func TestOfSome(t *testing.T) {
-	p, s, g := conf.Plain(), small(), great()
+	p, s, g := conf.Plain(), sample.Small(), sample.Great()
 	for _, w := range []struct {
 		c    api.Conf
 		lb   int
@@ -335,7 +244,7 @@ func TestOfSome(t *testing.T) {
 // TestBackOfParity: the first logical block of the stripe, wherever within the
 // unit phys is, and false.
 func TestBackOfParity(t *testing.T) {
-	p, s, g := conf.Plain(), small(), great()
+	p, s, g := conf.Plain(), sample.Small(), sample.Great()
 	for _, w := range []struct {
 		c           api.Conf
 		m, phys, lb int
@@ -351,7 +260,7 @@ func TestBackOfParity(t *testing.T) {
 // TestPlaces: Of of all logical blocks of a zone, and Back of all blocks of
 // its members.
 func TestPlaces(t *testing.T) {
-	for _, c := range bases() {
+	for _, c := range sample.Good() {
 		z := laid(c)
 		number(t, conf.Size(c), len(z.places), "logical blocks", c)
 		for lb, want := range z.places {
@@ -367,7 +276,7 @@ func TestPlaces(t *testing.T) {
 }
 
 func TestOfNoSuchBlock(t *testing.T) {
-	for _, c := range bases() {
+	for _, c := range sample.Good() {
 		for _, lb := range without(conf.Size(c)) {
 			lies(t, c, lb, api.Place{}, false)
 		}
@@ -375,7 +284,7 @@ func TestOfNoSuchBlock(t *testing.T) {
 }
 
 func TestBackOfNoSuchBlock(t *testing.T) {
-	for _, c := range bases() {
+	for _, c := range sample.Good() {
 		for m := range c.Members {
 			for _, phys := range without(conf.Stripes(c) * c.Unit) {
 				holds(t, c, m, phys, cell{})
@@ -385,7 +294,7 @@ func TestBackOfNoSuchBlock(t *testing.T) {
 }
 
 func TestBackOfNoSuchMember(t *testing.T) {
-	for _, c := range bases() {
+	for _, c := range sample.Good() {
 		for _, m := range without(c.Members) {
 			for _, phys := range within(conf.Stripes(c) * c.Unit) {
 				holds(t, c, m, phys, cell{})
@@ -426,7 +335,7 @@ func TestNeedOfPlain(t *testing.T) {
 }
 
 func TestNeedOfTheLeast(t *testing.T) {
-	c := small()
+	c := sample.Small()
 	need(t, c, least, 0, 0, 0)
 	need(t, c, -1, 0, 0, 0)
 	need(t, c, 0, 0, 0, 0)
@@ -443,7 +352,7 @@ func TestNeedOfTheLeast(t *testing.T) {
 }
 
 func TestNeedOfTheGreatest(t *testing.T) {
-	c := great()
+	c := sample.Great()
 	all := func(n int) []int { return slices.Repeat([]int{n}, 16) }
 	but := func(n int, at map[int]int) []int {
 		l := all(n)
@@ -470,7 +379,7 @@ func TestNeedOfTheGreatest(t *testing.T) {
 
 // TestNeeds: all that may be written of a zone, and beyond it on both sides.
 func TestNeeds(t *testing.T) {
-	for _, c := range bases() {
+	for _, c := range sample.Good() {
 		z := laid(c)
 		size := conf.Size(c)
 		for n, want := range z.needs {
@@ -487,7 +396,7 @@ func TestNeeds(t *testing.T) {
 }
 
 func TestNeedOfNoSuchMember(t *testing.T) {
-	for _, c := range bases() {
+	for _, c := range sample.Good() {
 		for _, m := range without(c.Members) {
 			for _, n := range append(without(conf.Size(c)), within(conf.Size(c))...) {
 				number(t, geom.Need(c, m, n), 0, "Need", c, m, n)
@@ -502,7 +411,7 @@ func TestNeedOfNoSuchMember(t *testing.T) {
 // stands beside them.
 func TestRefused(t *testing.T) {
 	some := []int{least, -1, 0, 1, 2, 3, 5, 6, 7, 12, 15, 23, 24, 71, 72, 1000, 1 << 20, 1 << 40, greatest}
-	for _, c := range refused() {
+	for _, c := range sample.Refused() {
 		for _, a := range some {
 			number(t, geom.Parity(c, a), 0, "Parity", c, a)
 			lies(t, c, a, api.Place{}, false)
@@ -526,7 +435,7 @@ type spot struct{ member, phys int }
 
 // TestNoTwoAtOnePlace: nor does a logical block lie where a parity does.
 func TestNoTwoAtOnePlace(t *testing.T) {
-	for _, c := range bases() {
+	for _, c := range sample.Good() {
 		at := map[spot]int{}
 		for lb := range conf.Size(c) {
 			p, ok := geom.Of(c, lb)
@@ -547,7 +456,7 @@ func TestNoTwoAtOnePlace(t *testing.T) {
 
 // TestOfAndBackAgree: in both directions, over all blocks of a zone.
 func TestOfAndBackAgree(t *testing.T) {
-	for _, c := range bases() {
+	for _, c := range sample.Good() {
 		for lb := range conf.Size(c) {
 			p, _ := geom.Of(c, lb)
 			holds(t, c, p.Member, p.Phys, cell{lb, true})
@@ -574,7 +483,7 @@ func TestOfAndBackAgree(t *testing.T) {
 
 // TestParitiesAreEven: up to one.
 func TestParitiesAreEven(t *testing.T) {
-	for _, c := range bases() {
+	for _, c := range sample.Good() {
 		has := make([]int, c.Members)
 		for stripe := range conf.Stripes(c) {
 			has[geom.Parity(c, stripe)]++
@@ -588,7 +497,7 @@ func TestParitiesAreEven(t *testing.T) {
 // TestNeedNeverFalls: a block more needs a block more of its member, and a
 // unit of the parity's, if the stripe is whole by it.
 func TestNeedNeverFalls(t *testing.T) {
-	for _, c := range bases() {
+	for _, c := range sample.Good() {
 		before := geom.Needs(c, -1)
 		for n := range conf.Size(c) + 3 {
 			now := geom.Needs(c, n)
@@ -612,7 +521,7 @@ func TestNeedNeverFalls(t *testing.T) {
 // TestWrittenInOrder: each logical block lies where its member's blocks end
 // that were needed ahead of it.
 func TestWrittenInOrder(t *testing.T) {
-	for _, c := range bases() {
+	for _, c := range sample.Good() {
 		for lb := range conf.Size(c) {
 			p, _ := geom.Of(c, lb)
 			number(t, geom.Need(c, p.Member, lb), p.Phys, "Need", c, p.Member, lb)
@@ -631,7 +540,7 @@ func spoil(l []int) {
 }
 
 func TestNeedsInNewMemory(t *testing.T) {
-	for _, c := range bases() {
+	for _, c := range sample.Good() {
 		for _, n := range []int{-1, 0, 1, conf.Row(c), conf.Row(c) + 1, conf.Size(c), greatest} {
 			first, second := geom.Needs(c, n), geom.Needs(c, n)
 			want := slices.Clone(first)
@@ -654,15 +563,15 @@ func answers(c api.Conf, a, b int) string {
 // TestFromArgumentsAlone: calls of other settings between, also of such as are
 // refused, change no answer; and none changes its settings.
 func TestFromArgumentsAlone(t *testing.T) {
-	for _, c := range bases() {
+	for _, c := range sample.Good() {
 		was := c
 		for _, a := range []int{-1, 0, 1, 2, 5, 100, greatest} {
 			for _, b := range []int{-1, 0, 1, 2, 5, 100, greatest} {
 				want := answers(c, a, b)
-				for _, other := range refused() {
+				for _, other := range sample.Refused() {
 					answers(other, a, b)
 				}
-				for _, other := range bases() {
+				for _, other := range sample.Good() {
 					answers(other, b, a)
 				}
 				if got := answers(c, a, b); got != want {
